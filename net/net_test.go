@@ -331,25 +331,35 @@ func TestNil(t *testing.T) {
 }
 
 func TestRounds(t *testing.T) {
-	n, s := netOf(t, api.Key{6}, 3), shadowOf(t, api.Key{6}, 3)
-	check := func(p api.Pick) {
-		t.Helper()
-		n.Do(p)
-		s.do(t, p)
-		s.like(t, n)
-	}
-	check(command(0, api.DoConnect, 1))
-	for _, rounds := range []int{-1, 0, math.MinInt} {
-		if n.Calm(rounds) != nil || len(n.Under()) != 1 {
-			t.Error("rounds", rounds)
+	for _, rounds := range []int{-1, 0, math.MinInt, 1, 2, 63, 64, 65, 1000, math.MaxInt} {
+		n, s := netOf(t, api.Key{6}, 3), shadowOf(t, api.Key{6}, 3)
+		check := func(p api.Pick) {
+			t.Helper()
+			n.Do(p)
+			s.do(t, p)
+			s.like(t, n)
 		}
-	}
-	for _, rounds := range []int{1, 2, 64, 65, 1000, math.MaxInt} {
-		n.Calm(rounds)
+		check(command(0, api.DoConnect, 1))
+		if given := n.Calm(rounds); len(given) != 0 {
+			t.Error("given", rounds)
+		}
 		s.calm(t, rounds)
+		s.like(t, n)
 		check(command(1, api.DoConnect, 2)) // its bytes hang on how many picks there were
 		check(command(0, api.DoCreate, 0))
 	}
+}
+
+func TestManyPicks(t *testing.T) {
+	n, s := netOf(t, api.Key{10}, 2), shadowOf(t, api.Key{10}, 2)
+	for range 1<<16 + 1<<8 + 3 {
+		n.Do(api.Pick{})
+		s.picks++
+	}
+	p := command(0, api.DoConnect, 1)
+	n.Do(p)
+	s.do(t, p)
+	s.like(t, n)
 }
 
 // TestMostInFlight: what goes out beyond 4096 is lost.

@@ -190,7 +190,9 @@ func TestAnswer(t *testing.T) {
 		t.Fatal(err)
 	}
 	want, _ := answer.Write(drawn(t, random(41), 0), nil)
-	out, err := n.Receive(0, b, random(41))
+	handed := bytes.Clone(b)
+	out, err := n.Receive(0, handed, random(41))
+	clear(handed)
 	if err != nil || len(out) != 1 || out[0].Peer != 0 || !bytes.Equal(out[0].Bytes, append([]byte{2}, want...)) {
 		t.Fatal("the second datagram", err)
 	}

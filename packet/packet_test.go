@@ -405,3 +405,29 @@ func TestArgumentsStay(t *testing.T) {
 	epochs[0] = 99
 	is(t, b, 0, 1)
 }
+
+// TestLargeNumbers: all bytes of an epoch and of a number are in the context.
+func TestLargeNumbers(t *testing.T) {
+	for _, x := range [][2]int{{0x01020304, 0x05060708}, {0x7fffffff, 0x80000000}, {1<<32 - 1, 1<<32 - 2}, {0x00ff00ff, 0x00ff0000}} {
+		epoch, number := x[0], x[1]
+		a, c := boxOf(t, epoch, 4, 1), chain.New(sum(100+epoch), 4)
+		if !a.Jump(number) || !c.Jump(1, number) {
+			t.Fatal("jump")
+		}
+		once, err := c.Next(1)
+		if err != nil {
+			t.Fatal(err)
+		}
+		group := sum(1)
+		context := binary.BigEndian.AppendUint32(group[:], uint32(epoch))
+		context = binary.BigEndian.AppendUint32(append(context, 1), uint32(number))
+		want, err := aead.Seal(once.Key, once.Nonce, context, text(9))
+		if err != nil {
+			t.Fatal(err)
+		}
+		p, err := a.Seal(text(9))
+		if err != nil || p.Epoch != epoch || p.Number != number || !bytes.Equal(p.Sealed, want) {
+			t.Error("seal", epoch, number, err)
+		}
+	}
+}

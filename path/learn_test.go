@@ -105,7 +105,7 @@ func TestAllLearn(t *testing.T) {
 				t.Fatal("learn", own, err)
 			}
 			more := maps.Clone(keys)
-			for _, n := range []int{-1, 64, 1000, math.MinInt, math.MaxInt} {
+			for _, n := range []int{-1, len(x.g.t), 64, 1000, math.MinInt, math.MaxInt} {
 				more[n] = s.key()
 			}
 			if got, err := x.learn(own, more); err != nil || !maps.Equal(got.Keys, x.expected(own, keys)) {

@@ -207,8 +207,10 @@ func TestUpdateErrors(t *testing.T) {
 			t.Error("remove no used leaf", i, err)
 		}
 	}
-	if out, err := tree.Update(x, 0, leaf(2)); !errors.Is(err, api.ErrMember) || out != nil {
-		t.Error("another one's name", err)
+	for i, name := range map[int]int{0: 2, 2: 1} {
+		if out, err := tree.Update(x, i, leaf(name)); !errors.Is(err, api.ErrMember) || out != nil {
+			t.Error("another one's name", i, err)
+		}
 	}
 	if _, err := tree.Update(x, 0, leaf(1)); err != nil {
 		t.Error("its own name", err)

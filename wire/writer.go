@@ -34,14 +34,12 @@ func (w *writer) leaf(n int) {
 }
 
 func (w *writer) bytes(b []byte) {
-	w.must(len(b) <= maxBytes)
 	w.number(len(b), 2)
 	w.raw(b)
 }
 
 // putList writes how many things there are, and these.
 func putList[T any](w *writer, list []T, put func(*writer, T)) {
-	w.must(len(list) <= maxMany)
 	w.number(len(list), 1)
 	for _, x := range list {
 		if w.bad {
