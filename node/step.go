@@ -125,12 +125,12 @@ func (s *step) again(to int) {
 }
 
 // propose makes a proposal, and sends it to the group.
-func (s *step) propose(make func() (api.Proposal, error)) error {
+func (s *step) propose(draft func() (api.Proposal, error)) error {
 	to := s.group()
 	if s.full(to) {
 		return api.ErrFull
 	}
-	p, err := make()
+	p, err := draft()
 	if err != nil {
 		return err
 	}
